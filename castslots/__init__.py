@@ -1,0 +1,1 @@
+"""Castslots: things with several elders, laid in slots."""
