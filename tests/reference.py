@@ -74,3 +74,54 @@ def laid(family, kind):
 def own_cells(family, kind, part):
     slots = thing(family, kind)
     return [at for at, (sign, owners) in enumerate(slots) if sign == "cell" and owners[0] == part]
+
+
+def chain(family, kind):
+    """A kind, its first plain elder, the first plain elder of that, and so on."""
+    plain = [elder for elder, shared in family[kind][0] if shared == 0]
+    return [kind] + (chain(family, plain[0]) if plain else [])
+
+
+def numbers(family, asked):
+    """The numbers by going down each kind's chain, with a place for each deed at its highest asker."""
+    told = []
+    for kind in range(len(family)):
+        highest = {}
+        for asker in reversed(chain(family, kind)):
+            for deed in sorted({deed for held, deed in asked if held == asker}):
+                highest.setdefault(deed, asker)
+        told.append(list(highest.items()))
+    return told
+
+
+def table(family, asked, kind, slot):
+    """The table of one slot, or None where no part begins."""
+    begins = dict(laid(family, kind)[1])
+    there = [part for part in begins if begins[part] == slot]
+    if not there:
+        return None
+    shared = [part for part in inside(family, there[0]) if len(part) == 1 and part != there[0]]
+    doing = [doers(family, kind, deed)[0] for deed, asker in numbers(family, asked)[there[0][-1]]]
+    return (
+        slot,
+        [(part[-1], begins[part] - slot) for part in shared],
+        [(part[-1], begins[part] - slot) for part in doing],
+    )
+
+
+def tables(family, asked, kind):
+    found = [table(family, asked, kind, slot) for slot in range(laid(family, kind)[0])]
+    return [told for told in found if told is not None]
+
+
+def unlike(family, other, asked):
+    told = []
+    for kind in range(len(family)):
+        flags = (
+            laid(family, kind) != laid(other, kind),
+            numbers(family, asked)[kind] != numbers(other, asked)[kind],
+            tables(family, asked, kind) != tables(other, asked, kind),
+        )
+        if True in flags:
+            told.append((kind,) + flags)
+    return told

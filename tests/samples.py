@@ -2,6 +2,8 @@
 
 from itertools import permutations, product
 
+from tests import reference
+
 # Two elders that share a third one, and a plain thing of both.
 DIAMOND = (
     ((), "a", 1),
@@ -56,3 +58,28 @@ def small_families():
             (elders, letters[(turn + 3 * number) % 7], (turn + number) % 4)
             for number, elders in enumerate(chosen)
         )
+
+
+# A chain of first plain elders, with a shared elder ahead of a plain one at its end.
+CHAIN = (
+    ((), "a", 1),
+    (((0, 0),), "b", 0),
+    ((), "c", 2),
+    (((2, 1), (1, 0)), "ad", 1),
+    (((3, 0), (2, 0)), "ce", 0),
+)
+
+FAMILIES = (DIAMOND, TWICE, NESTED, SIXTEEN, CHAIN)
+
+
+def known_pairs(family):
+    """All pairs (kind, deed) that can be asked of a family."""
+    return [(kind, deed) for kind in range(len(family)) for deed in "abcdef" if reference.doers(family, kind, deed)]
+
+
+def sound_families():
+    """The small families that are families, each with a list of pairs, now long, now short, now empty."""
+    for turn, family in enumerate(small_families()):
+        if reference.first_bad(family) is None:
+            pairs = known_pairs(family)
+            yield family, [pairs[at] for at in range(len(pairs) - 1, -1, -1) if (turn + at * at) % 5 < turn % 6]

@@ -28,6 +28,20 @@ INTERFACE = {
         "moved": ["family", "kind", "part", "elder"],
         "step": ["family", "kind", "elder"],
     },
+    "tables.py": {
+        "numbers": ["family", "asked"],
+        "tables": ["family", "asked", "kind"],
+        "call": ["family", "asked", "kind", "part", "deed"],
+        "led": ["family", "asked", "kind", "part", "elder"],
+        "reason": ["family", "asked", "kind", "deed"],
+    },
+    "changes.py": {
+        "unlike": ["family", "other", "asked"],
+    },
+    "notes.py": {
+        "written": ["family"],
+        "read": ["text"],
+    },
 }
 
 
